@@ -2,10 +2,10 @@ package eval
 
 import "probity/api"
 
-// simplified returns a right formula with the values of operations on numbers in their place.
+// simplified returns a right formula, which becomes its own, with the values of operations on numbers in their place.
 func simplified(e api.Expr) api.Expr {
 	if len(e.Args) == 0 {
-		return withArgs(e, nil)
+		return e
 	}
 	a, b := simplified(e.Args[0]), simplified(e.Args[1])
 	if a.Op == "num" && b.Op == "num" {
@@ -14,5 +14,6 @@ func simplified(e api.Expr) api.Expr {
 			return number
 		}
 	}
-	return withArgs(e, []api.Expr{a, b})
+	e.Args[0], e.Args[1] = a, b
+	return e
 }

@@ -1,4 +1,4 @@
-package eval
+package copies
 
 import (
 	"math"
@@ -15,8 +15,8 @@ const (
 	bytesOfPart = 72 // of one api.Expr
 )
 
-// copyOf returns any formula in new memory.
-func copyOf(e api.Expr) api.Expr {
+// Formula returns any formula in new memory.
+func Formula(e api.Expr) api.Expr {
 	whole := []api.Expr{e}
 	c := copier{
 		work:   [][]api.Expr{whole},
@@ -40,7 +40,7 @@ func (c *copier) copyNext() {
 	parts := c.work[len(c.work)-1]
 	c.work = c.work[:len(c.work)-1]
 	for i, part := range parts {
-		parts[i] = withArgs(part, c.begun(part.Args))
+		parts[i] = api.Expr{Op: strings.Clone(part.Op), Num: part.Num, Name: strings.Clone(part.Name), Args: c.begun(part.Args)}
 	}
 }
 
@@ -58,11 +58,6 @@ func (c *copier) begun(args []api.Expr) []api.Expr {
 		c.copies[listOf(args)] = copied
 	}
 	return copied
-}
-
-// withArgs returns a copy of a part with other arguments, which become its own.
-func withArgs(part api.Expr, args []api.Expr) api.Expr {
-	return api.Expr{Op: strings.Clone(part.Op), Num: part.Num, Name: strings.Clone(part.Name), Args: args}
 }
 
 // list tells lists of arguments apart by where they lie in memory: they can share it, and even contain themselves.
